@@ -1,6 +1,16 @@
 """The calls that put a new record into a journal: write, rule, back, remark."""
 
-from ferryjournals.records import REMARK, TAKING_BACK, TARGET, VERDICT, Record, person_of, stamp_number, tick_of
+from ferryjournals.records import (
+    MOST_OVER,
+    REMARK,
+    TAKING_BACK,
+    TARGET,
+    VERDICT,
+    Record,
+    stamp_number,
+    state_may_be,
+    tick_of,
+)
 from ferryjournals.refusals import (
     is_no_journal,
     name_is_beyond,
@@ -9,16 +19,14 @@ from ferryjournals.refusals import (
     target_refusal,
     text_is_beyond,
 )
-from ferryjournals.segments import heads_of, in_conflict, origin_of, records_of, standing
+from ferryjournals.segments import approves_own, heads_of, in_conflict, records_of, standing
 from ferryjournals.texts import read_text
-
-MOST_OVER = 16
 
 
 def write(journals, j, who, tick, doc, seg, state, src, row):
     if stamp_is_beyond(who, tick) or name_is_beyond(doc, seg) or text_is_beyond(src) or text_is_beyond(row):
         return [-6]
-    if is_no_journal(j) or state < 1 or state > 3:
+    if is_no_journal(j) or not state_may_be(TARGET, state):
         return [-1]
     source = read_text(src)
     target = read_text(row)
@@ -37,7 +45,7 @@ def write(journals, j, who, tick, doc, seg, state, src, row):
 def rule(journals, j, who, tick, doc, seg, state):
     if stamp_is_beyond(who, tick) or name_is_beyond(doc, seg):
         return [-6]
-    if is_no_journal(j) or state < 1 or state > 4:
+    if is_no_journal(j) or not state_may_be(VERDICT, state):
         return [-1]
     journal = journals[j]
     heads = heads_of(records_of(journal, (doc, seg)))
@@ -47,9 +55,10 @@ def rule(journals, j, who, tick, doc, seg, state):
     stamp = stamp_number(tick, who)
     if journal.has_stamp(stamp) or some_head_is_late(heads, tick) or in_conflict(heads):
         return [-3]
-    if state == 4 and person_of(origin_of(journal, head)) == who:
+    verdict = Record(stamp, VERDICT, (doc, seg), state, [head.stamp], [], [], 0)
+    if approves_own(journal, verdict):
         return [-3]
-    return enter(journal, Record(stamp, VERDICT, (doc, seg), state, [head.stamp], [], [], 0))
+    return enter(journal, verdict)
 
 
 def back(journals, j, who, tick, doc, seg):
@@ -94,7 +103,7 @@ def stamps_over(heads):
 
 
 def enter(journal, record):
-    if not journal.has_room(record):
+    if not journal.has_room([record]):
         return [-6]
     journal.put_in(record)
     return [0]

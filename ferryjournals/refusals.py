@@ -3,12 +3,14 @@
 The refusal of texts is a list, as it is answered; it has no number where nothing is refused.
 """
 
+from ferryjournals.records import REMARK, TARGET
 from ferryjournals.tags import fits, is_straight
 from ferryjournals.texts import CHARACTER
 
 LAST_JOURNAL = 2
 LAST_PERSON = 255
 TICKS = 1099511627776
+STAMPS = 281474976710656
 LAST_DOCUMENT = 15
 LAST_SEGMENT = 65535
 LONGEST_TEXT = 65536
@@ -19,8 +21,16 @@ def stamp_is_beyond(who, tick):
     return who > LAST_PERSON or tick >= TICKS
 
 
+def stamp_number_is_beyond(stamp):
+    return stamp >= STAMPS
+
+
+def document_is_beyond(doc):
+    return doc > LAST_DOCUMENT
+
+
 def name_is_beyond(doc, seg):
-    return doc > LAST_DOCUMENT or seg > LAST_SEGMENT
+    return document_is_beyond(doc) or seg > LAST_SEGMENT
 
 
 def text_is_beyond(text):
@@ -29,6 +39,10 @@ def text_is_beyond(text):
 
 def is_no_journal(j):
     return j > LAST_JOURNAL
+
+
+def are_no_two_journals(j, other):
+    return is_no_journal(j) or is_no_journal(other) or j == other
 
 
 def row_refusal(reading, kind):
@@ -66,4 +80,17 @@ def remark_refusal(row):
             return [-5, 4, place]
     if row.pieces == []:
         return [-5, 5, 0]
+    return []
+
+
+def put_refusal(kind, source, row):
+    """That of the two texts of a record from elsewhere."""
+    if kind == TARGET:
+        return target_refusal(source, row)
+    if source.text != []:
+        return [-5, 6, 0]
+    if kind == REMARK:
+        return remark_refusal(row)
+    if row.text != []:
+        return [-5, 6, 0]
     return []

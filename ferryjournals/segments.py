@@ -1,6 +1,6 @@
 """Segments: what a journal's records say of each of them."""
 
-from ferryjournals.records import REMARK, TAKING_BACK, VERDICT
+from ferryjournals.records import APPROVED, REMARK, TAKING_BACK, VERDICT, person_of
 
 
 def records_by_segment(journal):
@@ -48,3 +48,23 @@ def origin_of(journal, record):
     while origin.kind == VERDICT:
         origin = journal.records[origin.over[0]]
     return origin
+
+
+def approves_own(journal, record):
+    """Whether a record, which the journal needn't have, is an approval by its target's own hand."""
+    if record.kind != VERDICT or record.state != APPROVED:
+        return False
+    return person_of(origin_of(journal, record)) == person_of(record)
+
+
+def has_seen(journal, later, earlier):
+    """Whether the record of the later stamp has seen that of the earlier one."""
+    met = {later: True}
+    pile = [later]
+    while pile != []:
+        record = journal.records[pile.pop()]
+        for stamp in record.over:
+            if stamp not in met:
+                met[stamp] = True
+                pile.append(stamp)
+    return earlier in met

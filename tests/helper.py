@@ -2,6 +2,7 @@
 
 import os
 import sys
+import unittest
 
 sys.path.insert(0, os.path.dirname(os.path.dirname(os.path.abspath(__file__))))
 
@@ -53,6 +54,34 @@ def next_segment(j, what, doc=0, seg=0):
     return [8, j, what, doc, seg]
 
 
+def tally(j, doc):
+    return [9, j, doc]
+
+
+def count(j):
+    return [10, j]
+
+
+def record(j, k, which=0):
+    return [11, j, k, which]
+
+
+def put(j, number, kind, doc, seg, state, over=(), src="", row=""):
+    return [12, j, number, kind, doc, seg, state] + with_length(over) + with_length(src) + with_length(row)
+
+
+def merge(j, other):
+    return [13, j, other]
+
+
+def lacks(j, other):
+    return [14, j, other]
+
+
+def seen(j, a, b):
+    return [15, j, a, b]
+
+
 def stamp(tick, who):
     return 256 * tick + who
 
@@ -87,3 +116,29 @@ def told(tick, who, kind, state, heads, hand, text):
     """The answer of stands and head."""
     numbers = as_bytes(text)
     return [0, stamp(tick, who), kind, state, heads, hand, len(numbers)] + numbers
+
+
+def kept(number, kind, doc, seg, state, over, text):
+    """The answer of record."""
+    return [0, number, kind, doc, seg, state] + with_length(over) + with_length(text)
+
+
+def contents(*calls):
+    """All that the three journals have after these calls: each record, with both of its texts."""
+    found = []
+    for j, (many,) in enumerate(ask(*calls, count(0), count(1), count(2))[len(calls):]):
+        asked = [record(j, k, which) for k in range(many) for which in (0, 1)]
+        found.append(ask(*calls, *asked)[len(calls):])
+    return found
+
+
+class RefusalCase(unittest.TestCase):
+    good = [0]
+
+    def refused(self, answer, call, *before):
+        """The call is refused so, and the journals are as if it hadn't been made."""
+        self.assertEqual(last(*before, call), answer, call)
+        self.assertEqual(contents(*before, call), contents(*before), call)
+
+    def taken(self, call, *before):
+        self.assertEqual(last(*before, call), self.good, call)

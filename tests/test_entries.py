@@ -3,23 +3,11 @@
 import unittest
 
 from helper import (
-    MOST, MOST_LONG, TICKS, ask, back, head, last, next_segment, remark, rule, said, stamp, stands, told, write,
+    MOST, MOST_LONG, TICKS, RefusalCase, ask, back, head, last, next_segment, remark, rule, said, stamp, stands, told,
+    write,
 )
 
 TARGET = write(0, 1, 10, 0, 0, 2, "s", "t")
-LOOKS = [stands(0, 0, 0, 0), stands(0, 0, 0, 1), head(0, 0, 0, 0), head(0, 0, 0, 1), said(0, 0, 0, 0)]
-LOOKS = LOOKS + [next_segment(0, what) for what in range(4)]
-
-
-class RefusalCase(unittest.TestCase):
-    def refused(self, answer, call, *before):
-        """The call is refused so, and what can be asked afterwards is as if it hadn't been made."""
-        found = ask(*before, call, *LOOKS)
-        self.assertEqual(found[len(before)], answer, call)
-        self.assertEqual(found[len(before) + 1:], ask(*before, *LOOKS)[len(before):], call)
-
-    def taken(self, call, *before):
-        self.assertEqual(last(*before, call), [0], call)
 
 
 class WriteTest(RefusalCase):

@@ -1,5 +1,5 @@
-"""F1, F3, F4, F5 and F6 as far as the first eight calls reach, on journals that those calls alone can't make too:
-with many heads, such as records from elsewhere bring."""
+"""F1, F3, F4, F5 and F6 on journals that are built record by record, and on what the first eight calls make;
+test_union.py has the promises over all calls."""
 
 import random
 import unittest
